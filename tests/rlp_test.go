@@ -1,7 +1,6 @@
 package tests
 
 import (
-	"math/rand/v2"
 	"slices"
 	"strings"
 	"testing"
@@ -59,109 +58,9 @@ func rlpOf(sh shape, v []impl.Item) ([]byte, []impl.Item) {
 	return append(rlpHead(192, 247, len(b)), b...), rest
 }
 
-func checkNoRlp(t *testing.T, s []impl.Typ, b string) {
-	t.Helper()
-	if v, ok := impl.RlpDec(s, b); ok || len(v) != 0 {
-		t.Errorf("%q is read as %s %v, %v", b, impl.SchemaText(s), v, ok)
-	}
-}
-
-// checkRlp asks for the value's bytes, and for what is made of them.
-func checkRlp(t *testing.T, s []impl.Typ, v []impl.Item, want string) {
-	t.Helper()
-	b, ok := impl.RlpEnc(s, v)
-	if !ok || b != want {
-		t.Fatalf("%s: %s is written as %q, %v, not %q", impl.SchemaText(s), impl.ValueText(v), b, ok, want)
-	}
-	back, ok := impl.RlpDec(s, want)
-	if !ok || !slices.Equal(back, v) {
-		t.Fatalf("%s: %q is read as %v, %v, not %v", impl.SchemaText(s), want, back, ok, v)
-	}
-}
-
-func checkRlpEnds(t *testing.T, s []impl.Typ, b string) {
-	t.Helper()
-	for _, more := range []string{"\x00", "\x01", "\x7f", "\x80", "\xc0", "\xff", b} {
-		checkNoRlp(t, s, b+more)
-	}
-	for i := range len(b) {
-		checkNoRlp(t, s, b[:i])
-	}
-}
-
-func TestValuesComeBackFromRlp(t *testing.T) {
-	long := 0
-	eachRandom(func(_ *rand.Rand, sh shape, v []impl.Item) {
-		s := sh.schema()
-		want, _ := rlpOf(sh, v)
-		if len(v) > 200 {
-			long++
-			checkNoRlp(t, s, string(want))
-			if b, ok := impl.RlpEnc(s, v); ok || b != "" {
-				t.Fatalf("%d items are written as %q", len(v), b)
-			}
-			return
-		}
-		checkRlp(t, s, v, string(want))
-		if len(want) < 300 {
-			checkRlpEnds(t, s, string(want))
-		}
-	})
-	if long == 0 {
-		t.Error("no value was too long")
-	}
-}
-
-// checkRlpAgain asks the half of the promise that begins with bytes.
-func checkRlpAgain(t *testing.T, s []impl.Typ, b string) bool {
-	t.Helper()
-	v, ok := impl.RlpDec(s, b)
-	if !ok {
-		if len(v) != 0 {
-			t.Fatalf("%q is refused with %v", b, v)
-		}
-		return false
-	}
-	again, is := impl.RlpEnc(s, v)
-	if !is || again != b || !impl.Typed(s, v) {
-		t.Fatalf("%q is read as %s %v, which is written as %q, %v", b, impl.SchemaText(s), v, again, is)
-	}
-	return true
-}
-
-func TestSpoiledRlp(t *testing.T) {
-	edges := []byte{0, 1, 0x37, 0x38, 0x7f, 0x80, 0x81, 0xb7, 0xb8, 0xb9, 0xbf, 0xc0, 0xc1, 0xf7, 0xf8, 0xf9, 0xfa, 0xff}
-	good, bad := 0, 0
-	eachRandom(func(r *rand.Rand, sh shape, v []impl.Item) {
-		want, _ := rlpOf(sh, v)
-		for range 6 {
-			b := slices.Clone(want)
-			i := r.IntN(len(b))
-			switch r.IntN(4) {
-			case 0:
-				b[i] += byte(r.IntN(3)) - 1
-			case 1:
-				b[i] = edges[r.IntN(len(edges))]
-			case 2:
-				b = slices.Delete(b, i, i+1)
-			case 3:
-				b = slices.Insert(b, i, edges[r.IntN(len(edges))])
-			}
-			if checkRlpAgain(t, sh.schema(), string(b)) {
-				good++
-			} else {
-				bad++
-			}
-		}
-	})
-	if good < 1000 || bad < 1000 {
-		t.Errorf("%d were read, %d were not", good, bad)
-	}
-}
-
-// fewBytes has all bytes up to two, those of three with a head of two bytes,
+// fewRlp has all bytes up to two, those of three with a head of two bytes,
 // and some others of three, none of which is RLP of anything.
-func fewBytes() []string {
+func fewRlp() []string {
 	list := []string{""}
 	for n := range 256 {
 		list = append(list, string([]byte{byte(n)}))
@@ -178,9 +77,9 @@ func fewBytes() []string {
 	return list
 }
 
-// TestRlpOfFewBytes counts what is read: as many as there are such values.
 func TestRlpOfFewBytes(t *testing.T) {
-	few := fewBytes()
+	t.Parallel()
+	few := fewRlp()
 	for _, r := range []struct {
 		schema string
 		counts [4]int
@@ -206,20 +105,12 @@ func TestRlpOfFewBytes(t *testing.T) {
 		{"union1 bool", [4]int{0, 0, 0, 2}},
 		{"union3 bool u8 bytes0", [4]int{0, 0, 0, 2 + 128 + 1}},
 	} {
-		s := schemaOf(t, r.schema)
-		var counts [4]int
-		for _, b := range few {
-			if checkRlpAgain(t, s, b) {
-				counts[len(b)]++
-			}
-		}
-		if counts != r.counts {
-			t.Errorf("%s: %v values of 0 .. 3 bytes, not %v", r.schema, counts, r.counts)
-		}
+		wireOf("RLP").checkCounts(t, few, r.schema, r.counts)
 	}
 }
 
 func TestRlpOfEachKind(t *testing.T) {
+	w := wireOf("RLP")
 	for _, r := range []struct{ schema, value, b string }{
 		{"u8", "0", "\x80"}, {"u8", "1", "\x01"}, {"u8", "127", "\x7f"}, {"u8", "128", "\x81\x80"}, {"u8", "255", "\x81\xff"},
 		{"u16", "255", "\x81\xff"}, {"u16", "256", "\x82\x01\x00"}, {"u16", "65535", "\x82\xff\xff"},
@@ -235,12 +126,13 @@ func TestRlpOfEachKind(t *testing.T) {
 		{"union4 u8 u8 u8 option u8", "c3 none", "\xc2\x03\xc0"},
 	} {
 		s := schemaOf(t, r.schema)
-		checkRlp(t, s, valueOf(t, r.value), r.b)
-		checkRlpEnds(t, s, r.b)
+		w.check(t, s, valueOf(t, r.value), r.b)
+		w.checkEnds(t, s, r.b)
 	}
 }
 
 func TestRlpOfLongParts(t *testing.T) {
+	w := wireOf("RLP")
 	for _, r := range []struct {
 		n    int
 		head string
@@ -248,9 +140,9 @@ func TestRlpOfLongParts(t *testing.T) {
 	}{{54, "\xb6", "\xf7"}, {55, "\xb7", "\xf8\x38"}, {56, "\xb8\x38", "\xf8\x3a"}, {200, "\xb8\xc8", "\xf8\xca"}} {
 		text := strings.Repeat("z", r.n)
 		it := impl.Item{Kind: impl.TyBytes, S: text}
-		checkRlp(t, schemaOf(t, "bytes200"), []impl.Item{it}, r.head+text)
-		checkRlp(t, schemaOf(t, "list1 bytes200"), []impl.Item{{Kind: impl.TyList, N: 1}, it}, r.list+r.head+text)
-		checkRlp(t, schemaOf(t, "option bytes200"), []impl.Item{{Kind: impl.TyOption, N: 1}, it}, r.list+r.head+text)
+		w.check(t, schemaOf(t, "bytes200"), []impl.Item{it}, r.head+text)
+		w.check(t, schemaOf(t, "list1 bytes200"), []impl.Item{{Kind: impl.TyList, N: 1}, it}, r.list+r.head+text)
+		w.check(t, schemaOf(t, "option bytes200"), []impl.Item{{Kind: impl.TyOption, N: 1}, it}, r.list+r.head+text)
 	}
 	for _, r := range []struct {
 		schema string
@@ -267,44 +159,14 @@ func TestRlpOfLongParts(t *testing.T) {
 		first := strings.Repeat("a", int(s[1].N))
 		v := []impl.Item{{Kind: impl.TyStruct, N: 2}, {Kind: impl.TyFixed, S: first}, {Kind: impl.TyBytes, S: r.last}}
 		b := r.list + string([]byte{128 + byte(len(first))}) + first + r.head + r.last
-		checkRlp(t, s, v, b)
-		checkRlpEnds(t, s, b)
+		w.check(t, s, v, b)
+		w.checkEnds(t, s, b)
 	}
-}
-
-func TestRlpOfMostItems(t *testing.T) {
-	sh := shape{impl.Typ{Kind: 5, N: 20}, []shape{{impl.Typ{Kind: 5, N: 20}, []shape{{typ: impl.Typ{Kind: 1, N: 8}}}}}}
-	s := schemaOf(t, "list20 list20 u8")
-	for n := 195; n <= 420; n++ {
-		v := grown(n)
-		want, _ := rlpOf(sh, v)
-		if n <= 200 {
-			checkRlp(t, s, v, string(want))
-			continue
-		}
-		checkNoRlp(t, s, string(want))
-		if b, ok := impl.RlpEnc(s, v); ok || b != "" {
-			t.Fatalf("%d items are written as %q", n, b)
-		}
-	}
-	// The longest value: as many strings of most bytes as there may be.
-	long := shape{impl.Typ{Kind: 5, N: 20}, []shape{{impl.Typ{Kind: 5, N: 20}, []shape{{typ: impl.Typ{Kind: 3, N: 200}}}}}}
-	v := grown(200)
-	for i := range v {
-		if v[i].Kind == impl.TyUint {
-			v[i] = impl.Item{Kind: impl.TyBytes, S: strings.Repeat("\xee", 200)}
-		}
-	}
-	want, _ := rlpOf(long, v)
-	checkRlp(t, long.schema(), v, string(want))
 }
 
 func TestWrongRlp(t *testing.T) {
 	long := strings.Repeat("z", 60)
-	for _, r := range []struct {
-		schema string
-		bytes  []string
-	}{
+	wireOf("RLP").checkWrong(t, []wrong{
 		{"u8", []string{"", "\x00", "\x81\x00", "\x81\x01", "\x81\x7f", "\x82\x00\x80", "\x82\x01\x00", "\xc0", "\xc1\x05", "\x81", "\xb8\x01\x80", "\x05\x05", "\x80\x80", "\xb9\x00\x01\x80", "\xff"}},
 		{"u16", []string{"\x82\x00\xff", "\x83\x01\x00\x00", "\x83\x00\x01\x00", "\x82\x01"}},
 		{"u32", []string{"\x84\x00\xff\xff\xff", "\x85\x01\x00\x00\x00\x00", "\x84\xff\xff\xff"}},
@@ -322,33 +184,5 @@ func TestWrongRlp(t *testing.T) {
 		{"option bool", []string{"\xc1\x02", "\xc2\x80\x80", "\x01"}},
 		{"union3 u8 bool bytes3", []string{"\x80", "\xc0", "\xc1\x80", "\xc1\x05", "\xc2\x00\x05", "\xc2\x03\x05", "\xc2\x01\x05", "\xc3\x80\x05\x05", "\xc3\x81\x01\x01", "\xc2\xc0\x05", "\xc3\xc1\x80\x05", "\x82\x80\x05", "\xca\x89\x01\x00\x00\x00\x00\x00\x00\x00\x00", "\xc4\x82\x00\x01\x01", "\xc2\x80\xc0"}},
 		{"union1 u8", []string{"\xc2\x01\x05", "\xc1\x80", "\xc1\x05"}},
-	} {
-		s := schemaOf(t, r.schema)
-		for _, b := range r.bytes {
-			checkNoRlp(t, s, b)
-		}
-	}
-}
-
-func TestRlpOfNoValue(t *testing.T) {
-	for _, r := range []struct{ schema, value string }{
-		{"u8", "256"}, {"u8", "t"}, {"u8", "1 1"}, {"bool", "1"}, {"bytes1", "b:0000"}, {"fixed1", "x:"}, {"list1 u8", "l2 1 1"}, {"list1 u8", "l1"},
-		{"vector2 u8", "v1 1"}, {"struct2 u8 u8", "s2 1"}, {"option u8", "some"}, {"option u8", "none 1"}, {"union1 u8", "c1 1"},
-	} {
-		if b, ok := impl.RlpEnc(schemaOf(t, r.schema), valueOf(t, r.value)); ok || b != "" {
-			t.Errorf("%s: %s is written as %q, %v", r.schema, r.value, b, ok)
-		}
-	}
-	for _, it := range append(wrongItems, impl.Item{}) {
-		for _, schema := range []string{"u8", "bool", "bytes1", "fixed1", "option u8", "list1 u8", "union4 u8 u8 u8 u8"} {
-			for _, v := range [][]impl.Item{{it}, {it, {Kind: 1}}} {
-				if b, ok := impl.RlpEnc(schemaOf(t, schema), v); ok || b != "" {
-					t.Errorf("%s: %v is written as %q, %v", schema, v, b, ok)
-				}
-			}
-		}
-	}
-	if b, ok := impl.RlpEnc(schemaOf(t, "u8"), nil); ok || b != "" {
-		t.Errorf("nothing is written as %q, %v", b, ok)
-	}
+	})
 }

@@ -357,17 +357,20 @@ func TestSchemasThatAreNoneHaveNoValues(t *testing.T) {
 			if impl.Typed(s, v) {
 				t.Errorf("%v is a value of %v", v, s)
 			}
-			if b, ok := impl.RlpEnc(s, v); ok || b != "" {
-				t.Errorf("%v of %v is %q", v, s, b)
+			for _, w := range wires {
+				w.checkUnwritten(t, s, v)
 			}
 		}
 		if z := impl.ZeroOf(s); len(z) != 0 {
 			t.Errorf("%v has noughts %v", s, z)
 		}
-		for _, b := range []string{"", "\x07", "\x80", "\xc0", "\xc1\x07"} {
-			if v, ok := impl.RlpDec(s, b); ok || len(v) != 0 {
-				t.Errorf("%q is of %v %v", b, s, v)
+		for _, b := range []string{"", "\x00", "\x07", "\x80", "\xc0", "\xc1\x07"} {
+			for _, w := range wires {
+				w.checkNone(t, s, b)
 			}
+		}
+		if n := impl.SszSize(s); n != -1 {
+			t.Errorf("%v has values of %d bytes", s, n)
 		}
 	}
 }
@@ -553,12 +556,15 @@ func TestValuesAreLeftAlone(t *testing.T) {
 		impl.Typed(s[:len(s)-1], v[:len(v)-1])
 		impl.ValueText(v[:len(v)-1])
 		impl.ZeroOf(s[:len(s)-1])
-		b, ok := impl.RlpEnc(s[:len(s)-1], v[:len(v)-1])
-		w, is := impl.RlpDec(s[:len(s)-1], b)
-		if !ok || !is || !slices.Equal(w, items[:len(items)-1]) {
-			t.Fatalf("%q, %v, %v, %v", b, ok, w, is)
+		impl.SszSize(s[:len(s)-1])
+		for _, w := range wires {
+			b, ok := w.enc(s[:len(s)-1], v[:len(v)-1])
+			back, is := w.dec(s[:len(s)-1], b)
+			if !ok || !is || !slices.Equal(back, items[:len(items)-1]) {
+				t.Fatalf("%s: %q, %v, %v, %v", w.name, b, ok, back, is)
+			}
+			clear(back)
 		}
-		clear(w)
 		clear(impl.ZeroOf(s[:len(s)-1]))
 		again, _ := impl.ReadValue("l0")
 		clear(again)
