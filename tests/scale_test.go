@@ -26,27 +26,32 @@ func scaleCount(n int) []byte {
 	return lowFirst(uint64(4*n+1), 2)
 }
 
-// scaleOf is the tests' own reading of chapter 6.
-func scaleOf(sh shape, v []impl.Item) ([]byte, []impl.Item) {
-	it, rest := v[0], v[1:]
-	var b []byte
-	switch it.Kind {
-	case impl.TyUint:
-		b = lowFirst(it.N, sh.typ.N/8)
-	case impl.TyBool, impl.TyOption, impl.TyUnion:
-		b = []byte{byte(it.N)}
-	case impl.TyBytes:
-		b = scaleCount(len(it.S))
-	case impl.TyList:
-		b = scaleCount(int(it.N))
+// countedOf is the tests' own reading of chapters 6 and 8, which differ in how
+// a count is written.
+func countedOf(count func(n int) []byte) func(sh shape, v []impl.Item) ([]byte, []impl.Item) {
+	var of func(sh shape, v []impl.Item) ([]byte, []impl.Item)
+	of = func(sh shape, v []impl.Item) ([]byte, []impl.Item) {
+		it, rest := v[0], v[1:]
+		var b []byte
+		switch it.Kind {
+		case impl.TyUint:
+			b = lowFirst(it.N, sh.typ.N/8)
+		case impl.TyBool, impl.TyOption, impl.TyUnion:
+			b = []byte{byte(it.N)}
+		case impl.TyBytes:
+			b = count(len(it.S))
+		case impl.TyList:
+			b = count(int(it.N))
+		}
+		b = append(b, it.S...)
+		for _, part := range sh.under(it.N) {
+			var more []byte
+			more, rest = of(part, rest)
+			b = append(b, more...)
+		}
+		return b, rest
 	}
-	b = append(b, it.S...)
-	for _, part := range sh.under(it.N) {
-		var more []byte
-		more, rest = scaleOf(part, rest)
-		b = append(b, more...)
-	}
-	return b, rest
+	return of
 }
 
 func TestScaleOfEachKind(t *testing.T) {

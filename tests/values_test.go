@@ -26,6 +26,22 @@ func (sh shape) schema() []impl.Typ {
 	return s
 }
 
+// shapeOf answers the shape of a schema's text.
+func shapeOf(t *testing.T, text string) shape {
+	t.Helper()
+	s := schemaOf(t, text)
+	var next func() shape
+	next = func() shape {
+		sh := shape{typ: s[0]}
+		s = s[1:]
+		for range behind(sh.typ) {
+			sh.parts = append(sh.parts, next())
+		}
+		return sh
+	}
+	return next()
+}
+
 // under answers the shapes of what stands behind an Item with that N.
 func (sh shape) under(n uint64) []shape {
 	switch sh.typ.Kind {
@@ -183,11 +199,16 @@ func checkNoValueText(t *testing.T, text string) {
 	}
 }
 
-// eachRandom hands on values of schemas grown by a fixed rule.
+// eachRandom hands on values of all schemas.
 func eachRandom(do func(r *rand.Rand, sh shape, v []impl.Item)) {
+	eachRandomOf(randomShape, do)
+}
+
+// eachRandomOf hands on values of shapes grown by a fixed rule.
+func eachRandomOf(grow func(r *rand.Rand, deep int) shape, do func(r *rand.Rand, sh shape, v []impl.Item)) {
 	r := rand.New(rand.NewPCG(3, 4))
 	for range 6000 {
-		sh := randomShape(r, r.IntN(5))
+		sh := grow(r, r.IntN(5))
 		if len(sh.schema()) > 40 {
 			continue
 		}
@@ -428,31 +449,50 @@ func TestWrongValueTexts(t *testing.T) {
 	}
 }
 
-// grown answers a value of list20 list20 u8 that has n Items.
-func grown(n int) []impl.Item {
+// grown answers a value of list20 list20 and the type of part, of n Items.
+func grown(n int, part impl.Item) []impl.Item {
 	v := []impl.Item{{Kind: impl.TyList}}
 	for len(v) < n {
 		v[0].N++
 		k := min(20, n-len(v)-1)
 		v = append(v, impl.Item{Kind: impl.TyList, N: uint64(k)})
-		for i := range k {
-			v = append(v, impl.Item{Kind: impl.TyUint, N: uint64(100 + i)})
-		}
+		v = append(v, slices.Repeat([]impl.Item{part}, k)...)
+	}
+	return v
+}
+
+// grownMessage answers a value of struct2 list20 bool list20 struct1 list20
+// and the type of part, of n Items, at least three.
+func grownMessage(n int, part impl.Item) []impl.Item {
+	lists := n - 3
+	truths := 0
+	if lists%22 == 1 {
+		// One Item is too little for a message that has a list.
+		truths, lists = 1, lists-1
+	}
+	v := []impl.Item{{Kind: impl.TyStruct, N: 2}, {Kind: impl.TyList, N: uint64(truths)}}
+	v = append(v, slices.Repeat([]impl.Item{{Kind: impl.TyBool, N: 1}}, truths)...)
+	v = append(v, impl.Item{Kind: impl.TyList, N: uint64((lists + 21) / 22)})
+	for len(v) < n {
+		k := min(20, n-len(v)-2)
+		v = append(v, impl.Item{Kind: impl.TyStruct, N: 1}, impl.Item{Kind: impl.TyList, N: uint64(k)})
+		v = append(v, slices.Repeat([]impl.Item{part}, k)...)
 	}
 	return v
 }
 
 func TestMostItems(t *testing.T) {
 	s := schemaOf(t, "list20 list20 u8")
+	part := impl.Item{Kind: impl.TyUint, N: 100}
 	for n := 1; n <= 200; n++ {
-		v := grown(n)
+		v := grown(n, part)
 		back, ok := impl.ReadValue(textOf(v))
 		if len(v) != n || !impl.Typed(s, v) || impl.ValueText(v) != textOf(v) || !ok || !slices.Equal(back, v) {
 			t.Fatalf("%d items: %v, %q, %v", n, impl.Typed(s, v), impl.ValueText(v), ok)
 		}
 	}
 	for n := 201; n <= 420; n++ {
-		v := grown(n)
+		v := grown(n, part)
 		if impl.Typed(s, v) || impl.ValueText(v) != "" {
 			t.Fatalf("%d items: %v, %q", n, impl.Typed(s, v), impl.ValueText(v))
 		}
@@ -549,30 +589,45 @@ func TestNoughtsAtTheirEdges(t *testing.T) {
 }
 
 func TestValuesAreLeftAlone(t *testing.T) {
-	s := append(schemaOf(t, "list4 struct2 option u8 fixed2"), impl.Typ{Kind: 3, N: 5})
-	v := append(valueOf(t, "l2 s2 none x:0102 s2 some 9 x:0304"), impl.Item{Kind: 3, S: "kept"})
-	types, items := slices.Clone(s), slices.Clone(v)
-	for range 2 {
-		impl.Typed(s[:len(s)-1], v[:len(v)-1])
-		impl.ValueText(v[:len(v)-1])
-		impl.ZeroOf(s[:len(s)-1])
-		impl.SszSize(s[:len(s)-1])
-		for _, w := range wires {
-			b, ok := w.enc(s[:len(s)-1], v[:len(v)-1])
-			back, is := w.dec(s[:len(s)-1], b)
-			if !ok || !is || !slices.Equal(back, items[:len(items)-1]) {
-				t.Fatalf("%s: %q, %v, %v, %v", w.name, b, ok, back, is)
+	for _, r := range []struct{ schema, value, zero string }{
+		{"list4 struct2 option u8 fixed2", "l2 s2 none x:0102 s2 some 9 x:0304", "l0"},
+		{"struct3 list4 struct2 u8 fixed2 bytes5 list4 u16", "s3 l2 s2 0 x:0102 s2 9 x:0304 b:0506 l2 7 0", "s3 l0 b: l0"},
+		{"struct2 option bytes5 list4 option bytes5", "s2 some b:0506 l2 none some b:07", "s2 none l0"},
+		{"struct2 option bytes5 bytes5", "s2 some b:0506 b:07", "s2 none b:"},
+	} {
+		sh := shapeOf(t, r.schema)
+		s := append(sh.schema(), impl.Typ{Kind: 3, N: 5})
+		v := append(valueOf(t, r.value), impl.Item{Kind: 3, S: "kept"})
+		types, items := slices.Clone(s), slices.Clone(v)
+		for range 2 {
+			checkLeftAlone(t, sh, s[:len(s)-1], v[:len(v)-1])
+			if z := impl.ValueText(impl.ZeroOf(s[:len(s)-1])); z != r.zero {
+				t.Fatalf("the noughts became %q", z)
 			}
-			clear(back)
 		}
-		clear(impl.ZeroOf(s[:len(s)-1]))
-		again, _ := impl.ReadValue("l0")
-		clear(again)
-		if z := impl.ValueText(impl.ZeroOf(s[:len(s)-1])); z != "l0" {
-			t.Fatalf("the noughts became %q", z)
+		if !slices.Equal(s, types) || !slices.Equal(v, items) {
+			t.Errorf("%v became %v, %v became %v", types, s, items, v)
 		}
 	}
-	if !slices.Equal(s, types) || !slices.Equal(v, items) {
-		t.Errorf("%v became %v, %v became %v", types, s, items, v)
+}
+
+// checkLeftAlone calls all functions of values, and clears what they answer.
+func checkLeftAlone(t *testing.T, sh shape, s []impl.Typ, v []impl.Item) {
+	items := slices.Clone(v)
+	impl.Typed(s, v)
+	impl.ValueText(v)
+	impl.SszSize(s)
+	impl.ProtoOk(s)
+	impl.BitcoinOk(s)
+	for _, w := range wires {
+		b, ok := w.enc(s, v)
+		back, is := w.dec(s, b)
+		if ok != w.admits(sh) || is != ok || ok && !slices.Equal(back, items) {
+			t.Fatalf("%s: %q, %v, %v, %v", w.name, b, ok, back, is)
+		}
+		clear(back)
 	}
+	clear(impl.ZeroOf(s))
+	again, _ := impl.ReadValue("l0")
+	clear(again)
 }

@@ -18,12 +18,22 @@ type wire struct {
 	of   func(sh shape, v []impl.Item) ([]byte, []impl.Item)
 	// ends tells whether no value's bytes begin those of another one.
 	ends bool
+	// admits tells whether the format has values of a shape, and grow makes
+	// shapes of which it has some.
+	admits func(sh shape) bool
+	grow   func(r *rand.Rand, deep int) shape
 }
 
 var wires = []wire{
-	{"RLP", impl.RlpEnc, impl.RlpDec, rlpOf, true},
-	{"SSZ", impl.SszEnc, impl.SszDec, sszOf, false},
-	{"SCALE", impl.ScaleEnc, impl.ScaleDec, scaleOf, true},
+	{"RLP", impl.RlpEnc, impl.RlpDec, rlpOf, true, isAny, randomShape},
+	{"SSZ", impl.SszEnc, impl.SszDec, sszOf, false, isAny, randomShape},
+	{"SCALE", impl.ScaleEnc, impl.ScaleDec, countedOf(scaleCount), true, isAny, randomShape},
+	{"proto3", impl.ProtoEnc, impl.ProtoDec, protoOf, false, isMessage, randomMessageOrNot},
+	{"Bitcoin", impl.BitcoinEnc, impl.BitcoinDec, countedOf(bitcoinCount), true, isPlain, randomPlainOrNot},
+}
+
+func isAny(shape) bool {
+	return true
 }
 
 func wireOf(name string) wire {
@@ -32,6 +42,7 @@ func wireOf(name string) wire {
 
 // eachWire asks all formats at once.
 func eachWire(t *testing.T, ask func(t *testing.T, w wire)) {
+	t.Parallel()
 	for _, w := range wires {
 		t.Run(w.name, func(t *testing.T) {
 			t.Parallel()
@@ -84,14 +95,15 @@ func (w wire) again(t *testing.T, s []impl.Typ, b string) bool {
 	return true
 }
 
-// checkEnds asks for b with bytes more, and without some last ones.
+// checkEnds asks for b with bytes more, and without some last ones, of many
+// bytes not all of them.
 func (w wire) checkEnds(t *testing.T, s []impl.Typ, b string) {
 	t.Helper()
 	var others []string
 	for _, more := range []string{"\x00", "\x01", "\x04", "\x7f", "\x80", "\xc0", "\xff", b + "\x00"} {
 		others = append(others, b+more)
 	}
-	for i := range len(b) {
+	for i := len(b) - 1; i >= 0; i -= 1 + len(b)/60 {
 		others = append(others, b[:i])
 	}
 	for _, other := range others {
@@ -101,11 +113,38 @@ func (w wire) checkEnds(t *testing.T, s []impl.Typ, b string) {
 	}
 }
 
+// checkNotAdmitted asks for a value of a schema of which the format has none.
+func (w wire) checkNotAdmitted(t *testing.T, s []impl.Typ, v []impl.Item) {
+	t.Helper()
+	w.checkUnwritten(t, s, v)
+	for _, b := range []string{"", "\x00", "\x01", "\x00\x00", "\x08\x01", "\x0a\x00", "\x0a\x01\x00"} {
+		w.checkNone(t, s, b)
+	}
+}
+
+// thinned makes nothing of some numbers, truths and bytes.
+func thinned(r *rand.Rand, v []impl.Item) []impl.Item {
+	v = slices.Clone(v)
+	for i, it := range v {
+		if r.IntN(2) == 0 && slices.Contains([]int64{impl.TyUint, impl.TyBool, impl.TyBytes}, it.Kind) {
+			v[i] = impl.Item{Kind: it.Kind}
+		}
+	}
+	return v
+}
+
 func TestValuesComeBackFromEachWire(t *testing.T) {
 	eachWire(t, func(t *testing.T, w wire) {
 		long := 0
-		eachRandom(func(_ *rand.Rand, sh shape, v []impl.Item) {
+		eachRandomOf(w.grow, func(r *rand.Rand, sh shape, v []impl.Item) {
 			s := sh.schema()
+			if !w.admits(sh) {
+				w.checkNotAdmitted(t, s, v)
+				return
+			}
+			if r.IntN(2) == 0 {
+				v = thinned(r, v)
+			}
 			want, rest := w.of(sh, v)
 			if len(rest) > 0 {
 				t.Fatalf("%v is left of %v", rest, v)
@@ -128,7 +167,7 @@ func TestValuesComeBackFromEachWire(t *testing.T) {
 }
 
 // edges are bytes at which heads, counts and truths of a format change.
-var edges = []byte{0, 1, 2, 3, 4, 5, 8, 9, 12, 0x37, 0x38, 0x50, 0x54, 0x7f, 0x80, 0x81, 0xb7, 0xb8, 0xb9, 0xbf, 0xc0, 0xc1, 0xf7, 0xf8, 0xf9, 0xfa, 0xfc, 0xfd, 0xfe, 0xff}
+var edges = []byte{0, 1, 2, 3, 4, 5, 8, 9, 10, 12, 16, 18, 24, 26, 0x37, 0x38, 0x50, 0x54, 0x7f, 0x80, 0x81, 0xb7, 0xb8, 0xb9, 0xbf, 0xc0, 0xc1, 0xf7, 0xf8, 0xf9, 0xfa, 0xfc, 0xfd, 0xfe, 0xff}
 
 // spoilBytes changes, takes out or puts in one byte.
 func spoilBytes(r *rand.Rand, b []byte) []byte {
@@ -153,7 +192,10 @@ func spoilBytes(r *rand.Rand, b []byte) []byte {
 func TestSpoiledBytes(t *testing.T) {
 	eachWire(t, func(t *testing.T, w wire) {
 		good, bad := 0, 0
-		eachRandom(func(r *rand.Rand, sh shape, v []impl.Item) {
+		eachRandomOf(w.grow, func(r *rand.Rand, sh shape, v []impl.Item) {
+			if !w.admits(sh) {
+				return
+			}
 			b, _ := w.of(sh, v)
 			for range 6 {
 				if w.again(t, sh.schema(), string(spoilBytes(r, b))) {
@@ -170,34 +212,34 @@ func TestSpoiledBytes(t *testing.T) {
 }
 
 func TestMostItemsOnEachWire(t *testing.T) {
-	number, text := shape{typ: impl.Typ{Kind: impl.TyUint, N: 8}}, shape{typ: impl.Typ{Kind: impl.TyBytes, N: 200}}
 	eachWire(t, func(t *testing.T, w wire) {
-		for n := 1; n <= 420; n++ {
-			sh := listOf(20, listOf(20, number))
-			v := grown(n)
-			want, _ := w.of(sh, v)
-			if n <= 200 {
-				w.check(t, sh.schema(), v, string(want))
+		for _, r := range []struct {
+			schema string
+			least  int
+			grow   func(n int, part impl.Item) []impl.Item
+		}{{"list20 list20 ", 1, grown}, {"struct2 list20 bool list20 struct1 list20 ", 3, grownMessage}} {
+			sh := shapeOf(t, r.schema+"u8")
+			if !w.admits(sh) {
+				w.checkNotAdmitted(t, sh.schema(), r.grow(9, impl.Item{Kind: impl.TyUint}))
 				continue
 			}
-			w.checkNone(t, sh.schema(), string(want))
-			w.checkUnwritten(t, sh.schema(), v)
-		}
-		// The longest value: as many texts of most bytes as there may be.
-		sh := listOf(20, listOf(20, text))
-		v := grown(200)
-		for i := range v {
-			if v[i].Kind == impl.TyUint {
-				v[i] = impl.Item{Kind: impl.TyBytes, S: strings.Repeat("\xee", 200)}
+			for n := r.least; n <= 420; n++ {
+				v := r.grow(n, impl.Item{Kind: impl.TyUint, N: uint64(n % 256)})
+				want, _ := w.of(sh, v)
+				if n <= 200 {
+					w.check(t, sh.schema(), v, string(want))
+					continue
+				}
+				w.checkNone(t, sh.schema(), string(want))
+				w.checkUnwritten(t, sh.schema(), v)
 			}
+			// The longest value: as many texts of most bytes as there may be.
+			sh = shapeOf(t, r.schema+"bytes200")
+			v := r.grow(200, impl.Item{Kind: impl.TyBytes, S: strings.Repeat("\xee", 200)})
+			want, _ := w.of(sh, v)
+			w.check(t, sh.schema(), v, string(want))
 		}
-		want, _ := w.of(sh, v)
-		w.check(t, sh.schema(), v, string(want))
 	})
-}
-
-func listOf(n int64, part shape) shape {
-	return shape{impl.Typ{Kind: impl.TyList, N: n}, []shape{part}}
 }
 
 func TestNoValueHasNoBytes(t *testing.T) {
@@ -207,11 +249,14 @@ func TestNoValueHasNoBytes(t *testing.T) {
 			{"vector2 u8", "v1 1"}, {"vector2 u8", "v3 1 1 1"}, {"struct2 u8 u8", "s2 1"}, {"struct2 u8 bytes1", "s2 b:01 1"}, {"option u8", "some"}, {"option u8", "none 1"}, {"union1 u8", "c1 1"}, {"union2 u8 bool", "c2 1"}, {"union2 u8 bool", "c1 1"},
 		} {
 			w.checkUnwritten(t, schemaOf(t, r.schema), valueOf(t, r.value))
+			w.checkUnwritten(t, schemaOf(t, "struct1 "+r.schema), valueOf(t, "s1 "+r.value))
+			w.checkUnwritten(t, schemaOf(t, "struct2 u8 "+r.schema), valueOf(t, "s2 7 "+r.value))
 		}
 		for _, it := range append(slices.Clone(wrongItems), impl.Item{}) {
 			for _, schema := range []string{"u8", "bool", "bytes1", "fixed1", "option u8", "list1 u8", "union4 u8 u8 u8 u8"} {
 				for _, v := range [][]impl.Item{{it}, {it, {Kind: 1}}} {
 					w.checkUnwritten(t, schemaOf(t, schema), v)
+					w.checkUnwritten(t, schemaOf(t, "struct1 "+schema), append([]impl.Item{{Kind: impl.TyStruct, N: 1}}, v...))
 				}
 			}
 		}
