@@ -28,6 +28,9 @@ var messages = []message{
 	{"proof", 4, "struct4 u32 u32 fixed32 list16 fixed32", backBy(impl.ProofOf, impl.ProofValue, proofItems)},
 }
 
+// noKinds are numbers of no kind of messages.
+var noKinds = []int64{0, 5, 6, -1, -4, 256 + 1, 1<<32 + 1, math.MinInt64, math.MaxInt64}
+
 func backBy[T any](of func([]impl.Item) (T, bool), value func(T) []impl.Item, items func(T) []impl.Item) func(*testing.T, []impl.Item) ([]impl.Item, []impl.Item, bool) {
 	return func(t *testing.T, v []impl.Item) ([]impl.Item, []impl.Item, bool) {
 		t.Helper()
@@ -111,7 +114,7 @@ func TestMessageSchemas(t *testing.T) {
 			t.Errorf("the schema of kind %d became %q", m.kind, text)
 		}
 	}
-	for _, kind := range []int64{0, 5, 6, -1, -4, 256 + 1, 1<<32 + 1, math.MinInt64, math.MaxInt64} {
+	for _, kind := range noKinds {
 		if s := impl.MsgSchema(kind); len(s) != 0 {
 			t.Errorf("kind %d has schema %v", kind, s)
 		}
